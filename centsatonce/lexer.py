@@ -1,0 +1,39 @@
+"""The marks of a text."""
+
+from centsatonce.checks import DIGITS, LETTERS
+
+
+def run_signs(sign):
+    """Return the signs of which a run that begins with a sign is made, none for a single sign."""
+    if sign in LETTERS:
+        return LETTERS
+    if sign in DIGITS:
+        return DIGITS
+    return ""
+
+
+def end_of_run(text, start):
+    """Return the index behind the mark that begins at an index."""
+    signs = run_signs(text[start])
+    end = start + 1
+    while end < len(text) and text[end] in signs:
+        end += 1
+    return end
+
+
+def marks_of(text):
+    """Return the marks of a string, (line, at, mark) each, in their sequence."""
+    marks = []
+    line = 0
+    begin = 0
+    at = 0
+    while at < len(text):
+        end = end_of_run(text, at)
+        mark = text[at:end]
+        if mark != " ":
+            marks.append((line, at - begin, mark))
+        if mark == "\n":
+            line += 1
+            begin = end
+        at = end
+    return tuple(marks)
