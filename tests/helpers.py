@@ -69,7 +69,7 @@ def odd_values():
         True, False, None, 1.0, 0.0, float("nan"), 1j, "", "Tea", "tea ", "1", "te-a", "seventy", b"tea",
         [], [0], [0, 1], {}, {0: 1}, set(), {0}, frozenset((0,)), range(2), object(), Rude(), Yes(), Table,
         Table(("cup",), ((0,),)), ValueError(1), len, (True,), (None,), ([],), (0.0,), ("0",), (Rude(),), (Yes(),),
-        (Rude(), Rude()), (Yes(), Yes()), (0, True), (True, 1), (1, False), ("a", "b"), ((), ()), (1, 0), (0, 0),
+        (Rude(), Rude()), (Yes(), Yes()), (0, True), (True, 1), (1, False), ("a", "A"), ((), ()), (1, 0), (0, 0),
         (2, 1, 0), (-1,), (-1, 0), (10 ** 30,), deep_tuple(5000), iter(()), Fraction(1, 2), (0, 1.0), (0, None),
         (0, Rude()), (0, Yes()), ("total", Rude(), 1), ("off", Rude()), (Yes(), 0, 1), (Rude(), 0, 1), (Rude(), 0),
     ]
@@ -77,7 +77,8 @@ def odd_values():
 
 def with_swapped(value, other):
     """Yield all values that a value becomes if one item, at any depth, is another value."""
-    yield other
+    if value is not other:
+        yield other
     if isinstance(value, tuple):
         for at, item in enumerate(value):
             for swapped in with_swapped(item, other):
