@@ -1,6 +1,6 @@
 """Levels: all that is derived, by the depth of the derivations."""
 
-from centsatonce.reckonings import agreements, clashes, difference_of, opposite_reckoning
+from centsatonce.reckonings import clashes, difference_of, opposite_reckoning
 from centsatonce.reckonings import total_reckonings
 
 

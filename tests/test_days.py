@@ -6,6 +6,7 @@ from fractions import Fraction
 
 from centsatonce.days import check_day, check_line, choices, course_of, errors_behind, errors_of, first_off, is_day
 from centsatonce.days import total_errors, totals_by
+from centsatonce.numbers import ceiling_of, floor_of
 from centsatonce.tables import Table
 from tests.helpers import Rude, Yes, deep_tuple, errors_by_total, exact, is_kept_day, kind_errors, odd_values, raised
 from tests.helpers import random_fraction, random_lines, random_tables, rounded, told, with_swapped
@@ -75,6 +76,7 @@ class Choices(unittest.TestCase):
         rng = random.Random(1)
         for _ in range(500):
             amount = random_fraction(rng, 1000, (2, 3, 5, 7, MILLION))
+            self.assertEqual(choices(amount), tuple(sorted({floor_of(amount), ceiling_of(amount)})))
             if amount[1] > 1:
                 low = exact(amount).__floor__()
                 self.assertEqual(choices(amount), (low, low + 1))

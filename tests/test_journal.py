@@ -166,6 +166,32 @@ class Refusing(unittest.TestCase):
             self.assertEqual(raised(journal.write, (3,)), ("Refused", {"word": "room"}))
             self.assertEqual((journal.records(), journal.disk.events()), (((3,),) * count, before))
 
+    def test_filled_to_the_brim(self):
+        for many in list(range(1, 70)) + [200, 201]:
+            for turns in (0, 1, 2, 3):
+                journal = Journal(Disk((0,) * many))
+                if raised(journal.renew, ()) is None:
+                    for _ in range(turns):
+                        journal.renew(())
+                records = ()
+                for length in range(9, -1, -1):
+                    record = (length, 255, 1, 3, 0, 77, 1, 1, 1)[:length]
+                    while raised(journal.write, record) is None:
+                        records += (record,)
+                self.assertEqual(journal.records(), records)
+                self.assertEqual(Journal(Disk(cells_of(journal.disk))).records(), records)
+                self.check_places(journal.disk)
+                journal.renew(records)
+                self.assertEqual(Journal(Disk(cells_of(journal.disk))).records(), records)
+                self.check_places(journal.disk)
+
+    def check_places(self, disk):
+        """Whether octets were put at places of the disk alone."""
+        for event in disk.events():
+            if event is not None:
+                self.assertIn(event[0], range(len(disk.cells)))
+                self.assertIn(event[1], range(256))
+
     def test_any_cells(self):
         rng = random.Random(3)
         broken = 0

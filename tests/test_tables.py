@@ -5,6 +5,7 @@ import unittest
 from itertools import product
 
 from centsatonce.errors import InvalidTable, Refused
+from centsatonce.games import can_keep
 from centsatonce.tables import Table, class_numbers, class_of_kind, classes_of, core_of, kind_number, merged
 from centsatonce.tables import renamed_table, totals_by_classes, totals_with, with_total, without_kinds
 from centsatonce.tables import without_totals
@@ -252,6 +253,16 @@ class Changed(unittest.TestCase):
             sums = dict(zip(totals_by_classes(table), errors))
             self.assertEqual(found, [sums[total] for total in core.totals])
             self.assertTrue(all(exact((0, 1)) == error for total, error in zip(table.totals, errors) if not total))
+
+    def test_who_can_keep_one_can_keep_all(self):
+        seen = set()
+        for table in random_tables(12, 200, most_kinds=5, most_totals=5, sizes=(1, 2, 2, 3), least_kinds=3):
+            if classes_of(table):
+                for fractions, length in ((((1, 2),), 4), (((1, 3), (1, 2)), 3)):
+                    found = [can_keep(each, fractions, length) for each in (table, merged(table), core_of(table))]
+                    self.assertEqual(len(set(found)), 1)
+                    seen.add((found[0], merged(table) == table))
+        self.assertEqual(len(seen), 4)
 
     def test_nothing_is_changed(self):
         for table in TABLES[:30]:
