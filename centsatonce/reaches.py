@@ -14,9 +14,9 @@ def post_ties(table):
     ground = ground_of(table)
     tied = []
     for at, total in enumerate(totals_by_classes(table)):
-        if len(total) in (1, 2):
-            one, other = (total + (ground,))[:2]
-            tied.append((one, other, at))
+        ends = total + (ground,) if len(total) == 1 else total
+        if len(ends) == 2:
+            tied.append(ends + (at,))
     return tuple(tied)
 
 
