@@ -4,8 +4,8 @@ A tree is ("off", total) or ("line", kind, fraction, up, down).
 """
 
 from centsatonce.checks import begins_with, is_number_below
-from centsatonce.days import error_of_total, errors_behind, no_errors, totals_by
-from centsatonce.numbers import ONE, is_fraction, is_small, taken
+from centsatonce.days import errors_behind, no_errors, totals_by
+from centsatonce.numbers import ONE, is_fraction, is_small, is_small_sum, taken
 
 MOST_TREE_LINES = 150
 MOST_HEIGHT = 40
@@ -18,7 +18,7 @@ def is_attack_from(table, errors, value):
     while waiting:
         now, tree, above = waiting.pop()
         if is_told_end(table, tree):
-            if is_small(error_of_total(table, now, tree[1])):
+            if is_small_sum([now[kind] for kind in table.totals[tree[1]]]):
                 return False
         elif is_tree_line(table, tree) and many < MOST_TREE_LINES and above < MOST_HEIGHT:
             many += 1

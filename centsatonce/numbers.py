@@ -96,6 +96,15 @@ def sum_of(some):
     return total
 
 
+def is_small_sum(some):
+    """Return whether the sum of some fractions lies between -1 and 1."""
+    # Long fractions take most of their time to be brought to lowest terms, which is not needed here.
+    top, bottom = ZERO
+    for more, under in some:
+        top, bottom = top * under + more * bottom, bottom * under
+    return abs(top) < bottom
+
+
 def weighed(weights, some):
     """Return the sum of each integer times its fraction."""
     return sum_of([timed((weight, 1), one) for weight, one in zip(weights, some)])

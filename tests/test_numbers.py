@@ -6,7 +6,7 @@ from fractions import Fraction
 from math import ceil, floor, gcd
 
 from centsatonce.numbers import added, ceiling_of, floor_of, fraction_of, greatest_of, is_fraction, is_less, is_small
-from centsatonce.numbers import least_of, opposite_of, part_of, sum_of, taken, timed, weighed
+from centsatonce.numbers import is_small_sum, least_of, opposite_of, part_of, sum_of, taken, timed, weighed
 from tests.helpers import Rude, Yes, exact, odd_values, raised, told
 
 HUGE = 10 ** 4000 + 7
@@ -123,6 +123,7 @@ class Sums(unittest.TestCase):
             weights = tuple(rng.choice((0, 1, -1, 2, -7, 100, HUGE)) for _ in range(many))
             values = [exact(one) for one in some]
             self.assertEqual(sum_of(some), told(sum(values, Fraction(0))))
+            self.assertIs(is_small_sum(some), -1 < sum(values, Fraction(0)) < 1)
             product = sum((weight * one for weight, one in zip(weights, values)), Fraction(0))
             self.assertEqual(weighed(weights, some), told(product))
             self.assertEqual(least_of(some), told(min(values)) if some else None)
@@ -131,6 +132,7 @@ class Sums(unittest.TestCase):
     def test_none(self):
         self.assertEqual(sum_of(()), (0, 1))
         self.assertEqual(weighed((), ()), (0, 1))
+        self.assertIs(is_small_sum(()), True)
         self.assertIsNone(least_of(()))
         self.assertIsNone(greatest_of(()))
 
