@@ -4,11 +4,9 @@ In a game all fractions are whole numbers of one common unit. A state has the er
 totals; a move, a line that may come, is a tuple of the changes from which the clerk chooses.
 """
 
-from math import lcm
-
 from centsatonce.days import choices, error_of_line, no_errors, totals_behind, totals_by
 from centsatonce.errors import Refused
-from centsatonce.numbers import are_small, part_of
+from centsatonce.numbers import are_small, common_unit, in_units, part_of
 
 MOST_GAME_LINES = 12
 MOST_ROWS = 5000
@@ -69,19 +67,6 @@ def wins(table, errors, kinds_ahead, fractions):
             moves[kinds] = moves_of(table, kinds, [in_units(part, unit) for part in parts])
     state = tuple([in_units(error, unit) for error in beginning])
     return survives(unit, state, [moves[kinds] for kinds in kinds_ahead], {})
-
-
-def common_unit(fractions):
-    """Return a number that the bottoms of all fractions divide."""
-    unit = 1
-    for _, bottom in fractions:
-        unit = lcm(unit, bottom)
-    return unit
-
-
-def in_units(one, unit):
-    """Return how many units a fraction is, with so many units in a whole."""
-    return one[0] * (unit // one[1])
 
 
 def moves_of(table, kinds, parts):

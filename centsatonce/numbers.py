@@ -1,6 +1,6 @@
 """Fractions of any size: pairs (top, bottom) in lowest terms, the bottom above 0."""
 
-from math import gcd
+from math import gcd, lcm
 
 from centsatonce.checks import is_an_integer, is_tuple_of
 from centsatonce.errors import InvalidNumber
@@ -126,3 +126,16 @@ def greatest_of(some):
         if greatest is None or is_less(greatest, one):
             greatest = one
     return greatest
+
+
+def common_unit(fractions):
+    """Return a number that the bottoms of all fractions divide."""
+    unit = 1
+    for _, bottom in fractions:
+        unit = lcm(unit, bottom)
+    return unit
+
+
+def in_units(one, unit):
+    """Return how many units a fraction is, with so many units in a whole."""
+    return one[0] * (unit // one[1])

@@ -1,7 +1,7 @@
 """Reckonings: tuples with an integer for each class of a table."""
 
 from centsatonce.checks import is_an_integer, is_tuple_of
-from centsatonce.numbers import is_small, sum_of, weighed
+from centsatonce.numbers import common_unit, in_units, is_small_sum, sum_of, weighed
 from centsatonce.tables import classes_of, totals_by_classes
 
 
@@ -60,4 +60,30 @@ def reckoned(table, reckoning, errors):
 
 def is_off(table, reckoning, errors):
     """Return whether what is reckoned is 1 or above, or -1 or below."""
-    return not is_small(reckoned(table, reckoning, errors))
+    return is_off_by(reckoning, class_errors(table, errors))
+
+
+def is_off_by(reckoning, of_classes):
+    """Return whether what is reckoned by the errors of classes is 1 or above, or -1 or below."""
+    return not is_small_sum([(entry * top, bottom) for entry, (top, bottom) in zip(reckoning, of_classes) if entry])
+
+
+def in_one_unit(of_classes):
+    """Return the errors of classes as so many units each, and how many units a whole is."""
+    # With one bottom for all, many sums are sums of integers.
+    unit = common_unit(of_classes)
+    return ([in_units(one, unit) for one in of_classes], unit)
+
+
+def summed(reckoning, units):
+    """Return what is reckoned by the errors of classes in units."""
+    return sum([entry * many for entry, many in zip(reckoning, units) if entry])
+
+
+def are_all_small(reckonings, of_classes):
+    """Return whether what is reckoned by each of some reckonings lies between -1 and 1."""
+    units, whole = in_one_unit(of_classes)
+    for reckoning in reckonings:
+        if abs(summed(reckoning, units)) >= whole:
+            return False
+    return True

@@ -4,17 +4,27 @@ import unittest
 
 from centsatonce.attacks import attack_day, beaten_total, height_of, is_attack, mirrored
 from centsatonce.begun import begin_total, no_starts
+from centsatonce.court import Blocks, court, sides_of_total
 from centsatonce.days import course_of, first_off
 from centsatonce.derivations import derived_by
+from centsatonce.derived import derived_lot
 from centsatonce.disk import Disk
 from centsatonce.games import kept_days
+from centsatonce.halves import fewest_lines, half_states, is_clerk_table, lost_states
+from centsatonce.holding import allowed_in, told_day
 from centsatonce.knots import odd_ring, parted, partings_into_three
+from centsatonce.narrow import narrowest
 from centsatonce.numbers import added, ceiling_of, floor_of, fraction_of, part_of, weighed
 from centsatonce.pieces import piece_table, pieces_of
+from centsatonce.places import all_ends
+from centsatonce.pressing import press, pressed_day
 from centsatonce.printer import show_day, show_fraction, show_table
 from centsatonce.reaches import lines_that_tell, post_way
 from centsatonce.sequences import closures_back, is_kept, lost_line
 from centsatonce.tables import Table, classes_of, core_of, totals_by_classes
+from centsatonce.tapes import standing_day, tape_errors
+from centsatonce.wider import bound_of, widths_of
+from centsatonce.window import allowed, gap_beside, window_of
 
 
 class Examples(unittest.TestCase):
@@ -46,13 +56,40 @@ class Examples(unittest.TestCase):
                          (((0, (1, 2), 0), (2, (1, 2), 1), (1, (1, 2), 0)),
                           ((0, (1, 2), 1), (2, (1, 2), 0), (1, (1, 2), 1))))
 
+    def test_halves(self):
+        ring = Table(("cup", "jam", "tea"), ((0, 1), (1, 2), (0, 2)))
+        self.assertEqual((len(half_states(ring)), fewest_lines(ring), lost_states(ring)[(0, -1, 1)]), (13, 3, 1))
+        self.assertIs(is_clerk_table(Table(("cup",), ((0,),)), (((-1,), (1,)), ((0,), (0,)))), True)
+
     def test_derivations_and_knots(self):
+        self.assertEqual(derived_lot(Table(("cup", "tea"), ((0,), (0, 1)))),
+                         ("closed", ((-1, -1), (-1, 0), (0, -1), (0, 0), (0, 1), (1, 0), (1, 1))))
         table = Table(("cup", "jam", "tea"), ((0, 1), (1, 2), (0, 2)))
         steps = (("total", 0, 1), ("total", 1, 1), ("less", 1, 0, 1), ("total", 2, 1), ("less", 0, 3, 2))
-        self.assertEqual(derived_by(table, steps), (0, 0, 2))
+        self.assertEqual((derived_by(table, steps), press(table, steps, ((0, 1), (0, 1), (0, 1)))),
+                         ((0, 0, 2), ("line", 2, (1, 2))))
+        self.assertEqual(pressed_day(table, steps, (1,)), ((2, (1, 2), 1), (0, (1, 2), 0), (1, (1, 2), 0)))
         table = Table(("a", "b", "c"), ((0,), (0, 1), (0, 1, 2)))
         self.assertEqual((parted(table, 2, 0, 1), partings_into_three(table, 2), odd_ring(table)),
                          (((0,), (), (1,), (2,)), ((0, 1),), None))
+
+    def test_court(self):
+        self.assertEqual(court(Table(("cup", "tea"), ((1,), (0,), (0, 1)))).__class__.__name__, "Blocks")
+        self.assertEqual(court(Table(("cup", "jam", "tea"), ((2,), (0,), (0, 1, 2)))).__class__.__name__, "Knot")
+        table = Table(("a", "b", "c"), ((1,), (0, 1), (1, 2)))
+        blocks = court(table)
+        self.assertEqual((blocks.colours, blocks.pieces, sides_of_total(table, blocks, 0)),
+                         ((1, -1, 1), ((0, 1, 2),), (None, 1)))
+
+    def test_window(self):
+        table, errors = Table(("cup", "tea"), ((0,), (1,), (0, 1))), ((1, 4), (0, 1))
+        blocks = Blocks((1, -1), ((0, 1),))
+        self.assertEqual((window_of(table, blocks, errors), gap_beside(table, blocks, errors, 1)),
+                         ((((0, 1), (1, 4)),), ((1, 4), (1, 1))))
+        self.assertEqual((allowed(table, blocks, errors, 1, (1, 8)), allowed(table, blocks, errors, 1, (3, 4))),
+                         ((0,), (0, 1)))
+        lines = ((0, (1, 2)), (1, (1, 2)), (0, (1, 2)))
+        self.assertEqual(all_ends(table, blocks, lines), (((0, 1), (-1, 2)), ((0, 1), (1, 2))))
 
     def test_attacks(self):
         ring = Table(("cup", "jam", "tea"), ((0, 1), (1, 2), (0, 2)))
@@ -69,6 +106,9 @@ class Examples(unittest.TestCase):
         self.assertEqual((is_kept(table, (1, 0, 2)), lost_line(table, (1, 0, 2)), is_kept(table, (0, 2, 1))),
                          (False, 0, True))
 
+        self.assertEqual((allowed_in(table, (0, 2, 1), 1, ((1, 2), (0, 1), (0, 1)), (1, 3)),
+                          told_day(table, (0, 2, 1), ((1, 2), (1, 2)))), ((0,), ((0, (1, 2), 0), (2, (1, 2), 1))))
+
     def test_posts(self):
         table = Table(("bun", "cup", "jam", "tea"), ((0, 1), (1, 2), (2, 3), (3,)))
         self.assertEqual((post_way(table, 0, 4), lines_that_tell(table)), (((0, 1, 2, 3, 4), (0, 1, 2, 3)), 2))
@@ -78,6 +118,16 @@ class Examples(unittest.TestCase):
         errors = ((1, 2), (0, 1), (0, 1), (0, 1))
         begun, starts = begin_total(table, no_starts(table), errors, (0, 2))
         self.assertEqual((begun.totals, starts), (((0, 1), (2, 3), (0, 2), (0, 2)), ((0, 1), (0, 1), (0, 1), (1, 2))))
+
+    def test_widths(self):
+        table = Table(("cup", "jam", "tea"), ((0,), (0, 1), (0, 1, 2)))
+        self.assertEqual((widths_of(table, (1, -1, 1)), bound_of(table, (1, -1, 1), (2, 1, -1)), narrowest(table)),
+                         ((1, 1, 2), 2, 2))
+
+    def test_tapes(self):
+        tape = ((0, (1, 2), 1), (1, (1, 2), 0), (0, (1, 2), 0), ("struck", 2))
+        self.assertEqual((standing_day(tape), tape_errors(Table(("cup", "tea"), ((0,), (0, 1))), tape)),
+                         (((0, (1, 2), 1), (1, (1, 2), 0)), ((1, 2), (0, 1))))
 
     def test_disk(self):
         disk = Disk((0,) * 900)

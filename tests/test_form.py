@@ -302,7 +302,8 @@ class Form(unittest.TestCase):
         for node, place in self.each(ast.FunctionDef):
             self.assertFalse(node.args.vararg or node.args.kwarg or node.args.kwonlyargs or node.args.posonlyargs, place)
             for default in node.args.defaults:
-                self.assertIsInstance(default, ast.Constant, place)
+                self.assertIsInstance(default, (ast.Constant, ast.Tuple), place)
+                self.assertIsNotNone(repr(ast.literal_eval(default)), place)
             self.assertIsNone(node.returns, place)
 
 
