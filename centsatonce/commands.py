@@ -1,14 +1,13 @@
 """Commands for a till, and their texts."""
 
-from centsatonce.checks import DIGITS, are_names, are_numbers_below, is_an_integer, is_name
-from centsatonce.checks import is_number_below
+from centsatonce.checks import are_names, are_numbers_below, is_an_integer, is_name, is_number_below
 from centsatonce.days import MILLION, is_amount
 from centsatonce.errors import InvalidText
+from centsatonce.lexer import numeral_of
 from centsatonce.numbers import fraction_of
 from centsatonce.printer import show_fraction, show_integer
 
 NUMBERS = 13
-LONGEST_NUMERAL = 7
 FORMS = {
     "line": ("name", "amount"),
     "total": ("names",),
@@ -23,20 +22,11 @@ FORMS = {
 SINGLE = {"names": "name", "numbers": "number"}
 
 
-def read_numeral(word):
-    """Return the number of a numeral, None of any other word."""
-    if not 1 <= len(word) <= LONGEST_NUMERAL or not all([sign in DIGITS for sign in word]):
-        return None
-    if int(word) > MILLION or str(int(word)) != word:
-        return None
-    return int(word)
-
-
 def read_whole(word):
     """Return the integer of a numeral, perhaps with - before it, None of any other word."""
     if not word.startswith("-"):
-        return read_numeral(word)
-    number = read_numeral(word[1:])
+        return numeral_of(word)
+    number = numeral_of(word[1:])
     return -number if number else None
 
 
@@ -44,7 +34,7 @@ def read_amount(word):
     """Return the fraction that is shown by a word, None if there is none."""
     before, slash, behind = word.partition("/")
     top = read_whole(before)
-    bottom = read_numeral(behind) if slash else 1
+    bottom = numeral_of(behind) if slash else 1
     if top is None or not bottom:
         return None
     amount = fraction_of(top, bottom)
@@ -81,7 +71,7 @@ def is_part(part, value):
 def read_part(part, word):
     """Return what a word tells as a single part of a command, if it tells something."""
     if part == "number":
-        return read_numeral(word)
+        return numeral_of(word)
     if part == "amount":
         return read_amount(word)
     if part == "whole":

@@ -66,11 +66,26 @@ def odd_ring(table):
     """Return some right knot "ring", None if there is none."""
     tied = ties(table)
     for start in range(len(classes_of(table))):
-        ways = ways_from(tied, start)
-        for one, other, total in tied:
-            if one in ways and len(ways[one][0]) == len(ways[other][0]):
-                return ring_of(ways[one], ways[other], total)
+        rings = rings_from(tied, start)
+        if rings:
+            return rings[0]
     return None
+
+
+def odd_rings(table):
+    """Return some right knots "ring", the shortest one among them, none if there is none."""
+    tied = ties(table)
+    return [ring for start in range(len(classes_of(table))) for ring in rings_from(tied, start)]
+
+
+def rings_from(tied, start):
+    """Return the rings of two shortest ways from a start, as long as one another, whose ends are tied."""
+    ways = ways_from(tied, start)
+    rings = []
+    for one, other, total in tied:
+        if one in ways and len(ways[one][0]) == len(ways[other][0]):
+            rings.append(ring_of(ways[one], ways[other], total))
+    return rings
 
 
 def ring_of(one, other, total):

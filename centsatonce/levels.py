@@ -66,14 +66,24 @@ def least_beyond(table):
     """Return some derivation of least depth of a reckoning that is beyond, None if there is none."""
     levels, sources = grown(table)
     torn = torn_pair(levels[-1])
-    if torn is None:
-        return None
-    one, other, number = torn
+    return None if torn is None else difference_from(sources, torn)
+
+
+def difference_from(sources, pair):
+    """Return a derivation of the difference of a pair (one, other, class) that agree at the class."""
+    one, other, number = pair
     steps = []
     places = {}
     add_steps(sources, one, steps, places)
     add_steps(sources, other, steps, places)
     steps.append(("less", number, places[one], places[other]))
+    return tuple(steps)
+
+
+def derivation_from(sources, reckoning):
+    """Return a derivation of a reckoning of some level."""
+    steps = []
+    add_steps(sources, reckoning, steps, {})
     return tuple(steps)
 
 

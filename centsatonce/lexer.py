@@ -1,6 +1,9 @@
-"""The marks of a text."""
+"""The marks of a text, and the numerals among them."""
 
 from centsatonce.checks import DIGITS, LETTERS
+
+LONGEST_NUMERAL = 7
+GREATEST_NUMERAL = 1000000
 
 
 def run_signs(sign):
@@ -37,3 +40,12 @@ def marks_of(text):
             begin = end
         at = end
     return tuple(marks)
+
+
+def numeral_of(mark):
+    """Return the number of a numeral, None of any other string."""
+    # Longer runs are not even read: Python refuses to read very long ones.
+    if not 1 <= len(mark) <= LONGEST_NUMERAL or not all([sign in DIGITS for sign in mark]):
+        return None
+    number = int(mark)
+    return number if number <= GREATEST_NUMERAL and str(number) == mark else None

@@ -3,9 +3,8 @@
 from centsatonce.checks import is_tuple_of
 from centsatonce.days import no_errors
 from centsatonce.errors import Refused
-from centsatonce.numbers import ONE, ZERO, added, floor_of, greatest_of, is_fraction, is_less, is_small
-from centsatonce.numbers import least_of, part_of, taken
-from centsatonce.window import fixed_pieces, signed_errors
+from centsatonce.numbers import ONE, ZERO, added, floor_of, is_fraction, is_less, part_of, taken
+from centsatonce.window import are_close, fixed_pieces, signed_errors
 
 MOST_ENDS = 500
 
@@ -36,7 +35,7 @@ def is_end(table, blocks, lines, value):
         points = with_ground(value, piece, fixed)
         if points[0] != with_ground(places, piece, fixed)[0]:
             return False
-        if not is_small(taken(greatest_of(points), least_of(points))):
+        if not are_close(points):
             return False
     return True
 
@@ -74,7 +73,12 @@ def all_ends(table, blocks, lines):
             told = {number: point for number, point in zip(piece, end)}
             longer.extend([{**one, **told} for one in found])
         found = longer
-    return tuple(sorted([tuple([one[number] for number in range(len(places))]) for one in found]))
+    return tuple(sorted([by_number(one) for one in found]))
+
+
+def by_number(told):
+    """Return the points of all classes, told by the numbers of these, in their sequence."""
+    return tuple([told[number] for number in range(len(told))])
 
 
 def end_of(table, blocks, errors):

@@ -20,14 +20,9 @@ def post_ties(table):
     return tuple(tied)
 
 
-def post_ways(table, start):
-    """Return a dict from each post that a way leads to from a start to some shortest way."""
-    return ways_from(post_ties(table), start, ground_of(table))
-
-
 def post_way(table, one, other):
     """Return the posts and the totals of some shortest way, None if there is none."""
-    return post_ways(table, one).get(other)
+    return ways_from(post_ties(table), one, ground_of(table)).get(other)
 
 
 def distance(table, one, other):
@@ -44,18 +39,30 @@ def is_post_way(table, posts, totals):
     return ground not in posts[1:-1]
 
 
+def post_pairs(table):
+    """Return the lot of the triples (distance, one, other) of all pairs of posts with a way between them."""
+    tied = post_ties(table)
+    ground = ground_of(table)
+    pairs = []
+    for one in range(ground):
+        for other, way in ways_from(tied, one, ground).items():
+            if one < other:
+                pairs.append((len(way[1]), one, other))
+    return tuple(sorted(pairs))
+
+
 def farthest(table):
     """Return the greatest distance of two posts."""
-    greatest = 0
-    for start in range(ground_of(table) + 1):
-        ways = post_ways(table, start)
-        greatest = max(greatest, max([len(totals) for _, totals in ways.values()]))
-    return greatest
+    return max([apart for apart, _, _ in post_pairs(table)], default=0)
 
 
 def lines_that_tell(table):
     """Return the least number of lines of which 2 to the power is at least the farthest."""
-    reach = farthest(table)
+    return lines_for(farthest(table))
+
+
+def lines_for(reach):
+    """Return the least number of lines of which 2 to the power is at least a reach."""
     lines = 0
     power = 1
     while power < reach:

@@ -33,14 +33,19 @@ def window_of(table, blocks, errors):
     return tuple([(least_of(some), greatest_of(some)) for some in points_of(table, blocks, errors)])
 
 
-def is_span(window):
-    """Return whether the greatest point is less than 1 above the least one."""
-    return is_small(taken(window[1], window[0]))
+def span_of(points):
+    """Return how far the greatest of some points is above the least one."""
+    return taken(greatest_of(points), least_of(points))
+
+
+def are_close(points):
+    """Return whether the greatest of some points is less than 1 above the least one."""
+    return is_small(span_of(points))
 
 
 def is_inside(table, blocks, errors):
     """Return whether each span is below 1."""
-    return all([is_span(window) for window in window_of(table, blocks, errors)])
+    return all([are_close(points) for points in points_of(table, blocks, errors)])
 
 
 def allowed(table, blocks, errors, kind, amount):
