@@ -217,6 +217,25 @@ class Stubborn(unittest.TestCase):
             if is_good(table):
                 self.assertIsNone(before)
 
+    def test_against_the_quickest_attack(self):
+        # Whoever rounds the first line of it, the rest needs one line less at most; stubborn wholes leave just that.
+        rng = random.Random(9)
+        walked = 0
+        for table in TABLES + [RING, ring_table(9), LINE]:
+            for size in (0, 1, 2):
+                errors = tuple(random_fraction(rng, size, (2, 3, 5)) for _ in table.kinds)
+                tree = quickest_attack(table, errors)
+                while tree is not None and tree[0] == "line":
+                    kind, amount, height = tree[1], tree[2], least_lines(table, errors)
+                    for whole in (0, 1):
+                        self.assertLess(least_lines(table, behind(errors, kind, amount, whole)), height)
+                    whole = stubborn(table, errors, kind, amount)
+                    errors = behind(errors, kind, amount, whole)
+                    self.assertEqual(least_lines(table, errors), height - 1)
+                    tree = tree[4 - whole]
+                    walked += 1
+        self.assertGreater(walked, 100)
+
     def test_four_hundred_lines(self):
         rng = random.Random(8)
         for table in (LINE, ring_table(11)):

@@ -191,6 +191,12 @@ class AnyValue(unittest.TestCase):
                       (((-1,), (1,)), ((0,), (0,)), ((0,), (1,)), ((1,), (0,)))]:
             self.assertIs(is_clerk_table(ONE, value), False)
 
+    def test_entries_of_two(self):
+        right = (((-1,), (1,)), ((0,), (0,)), ((1,), (0,)))
+        self.assertIs(is_clerk_table(ONE, (((-1,), (2,)), ((0,), (0,)))), False)
+        self.assertIs(is_clerk_table(ONE, right + (((2,), (0,)),)), False)
+        self.assertIs(is_clerk_table(ONE, (((-2,), (1,)),) + right), False)
+
     def test_all_pairs_of_states(self):
         two = Table(("a", "b"), ((0,), (0, 1)))
         states = list(product((-1, 0, 1), repeat=2))

@@ -197,6 +197,12 @@ class Wholes(unittest.TestCase):
         for many in range(6):
             lines = tuple((kind, (1, 3)) for kind in range(many))
             self.assertEqual(raised(lasting_day, LINE, errors, lines), LOST if many > 3 else None)
+            # Whole amounts change nothing, so nothing that is lost comes near again.
+            lines = ((5, (2, 1)),) * many
+            if many > 3:
+                self.assertEqual(raised(lasting_day, LINE, errors, lines), LOST)
+            else:
+                self.assertEqual(lasting_day(LINE, errors, lines), ((5, (2, 1), 2),) * many)
 
     def test_four_hundred_lines(self):
         rng = random.Random(6)
