@@ -3,7 +3,7 @@
 from centsatonce.checks import are_numbers_below, are_unlike, is_lot_below, is_number_below, is_tuple_of
 from centsatonce.tables import classes_of, totals_by_classes
 from centsatonce.ties import ties
-from centsatonce.ways import are_tied, ways_from
+from centsatonce.ways import are_tied, ring_between, ways_from
 
 LEAST_RING = 3
 LEAST_PARTS = 3
@@ -90,13 +90,8 @@ def rings_from(tied, start):
 
 def ring_of(one, other, total):
     """Return the ring of two shortest ways with one start, as long as another, and a tie of their ends."""
-    # Such ways go along together at first, and do not meet again behind that.
-    alike = 0
-    while one[0][alike] == other[0][alike]:
-        alike += 1
-    back = tuple(reversed(other[0][alike:]))
-    back_totals = tuple(reversed(other[1][alike - 1:]))
-    return Knot("ring", one[0][alike - 1:] + back, one[1][alike - 1:] + (total,) + back_totals)
+    classes, totals = ring_between(one, other, total)
+    return Knot("ring", classes, totals)
 
 
 def is_knot(table, value):

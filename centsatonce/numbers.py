@@ -96,6 +96,14 @@ def sum_of(some):
     return total
 
 
+def sum_by_turns(some):
+    """Return the sum of some fractions with signs by turns: +, -, +, and so on."""
+    total = ZERO
+    for at, one in enumerate(some):
+        total = taken(total, one) if at & 1 else added(total, one)
+    return total
+
+
 def is_small_sum(some):
     """Return whether the sum of some fractions lies between -1 and 1."""
     # Long fractions take most of their time to be brought to lowest terms, which is not needed here.

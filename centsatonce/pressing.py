@@ -38,24 +38,31 @@ def first_off_step(table, reckonings, errors):
 def bursting_line(table, reckoning, errors):
     """Return a line behind which a reckoning that is beyond, but not off, is off."""
     number = [at for at, entry in enumerate(reckoning) if abs(entry) > 1][0]
-    value = weighed(reckoning, class_errors(table, errors))
+    return line_of_class(table, number, bursting_amount(reckoning, number, class_errors(table, errors)))
+
+
+def bursting_amount(reckoning, number, of_classes):
+    """Return an amount for a class at which a reckoning, not off, is beyond: behind it this is off."""
+    value = weighed(reckoning, of_classes)
     if reckoning[number] < 0:
         value = opposite_of(value)
-    return line_of_class(table, number, timed(HALF, added(ONE, value)))
+    return timed(HALF, added(ONE, value))
 
 
 def parting_line(table, step, reckonings, errors):
     """Return a line behind which one of the parts of a difference is off, if this is off and they are not."""
-    of_classes = class_errors(table, errors)
-    one = weighed(reckonings[step[2]], of_classes)
-    other = weighed(reckonings[step[3]], of_classes)
+    parts = (reckonings[step[2]], reckonings[step[3]])
+    return line_of_class(table, step[1], parting_amount(parts, step[1], class_errors(table, errors)))
+
+
+def parting_amount(parts, number, of_classes):
+    """Return an amount for a class at which two reckonings agree: behind it one of them is off."""
+    one, other = [weighed(part, of_classes) for part in parts]
     # Up, the greater part comes to 1 or above, and down, the lesser one to -1 or below; with -1
     # at the class it is the other way round.
-    if reckonings[step[2]][step[1]] > 0:
-        amount = other if is_less(one, other) else one
-    else:
-        amount = opposite_of(one if is_less(one, other) else other)
-    return line_of_class(table, step[1], amount)
+    if parts[0][number] > 0:
+        return other if is_less(one, other) else one
+    return opposite_of(one if is_less(one, other) else other)
 
 
 def line_of_class(table, number, amount):

@@ -106,10 +106,15 @@ def renamed_table(table, names):
     """Return the table with new names for the old numbers, and the new numbers of all kinds."""
     if not is_tuple_of(names, len(table.kinds)) or not are_names(names) or not are_unlike(names):
         raise Refused("names")
+    return table_by_names(names, table.totals)
+
+
+def table_by_names(names, totals):
+    """Return the table of unlike names in any sequence and of totals of their numbers, and the new numbers of all."""
     kinds = tuple(sorted(names))
     numbers = tuple([kinds.index(name) for name in names])
-    totals = [tuple(sorted([numbers[kind] for kind in total])) for total in table.totals]
-    return (Table(kinds, tuple(totals)), numbers)
+    renumbered = [tuple(sorted([numbers[kind] for kind in total])) for total in totals]
+    return (Table(kinds, tuple(renumbered)), numbers)
 
 
 def merged(table):

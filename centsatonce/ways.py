@@ -31,6 +31,17 @@ def ways_from(tied, start, last=None):
     return ways
 
 
+def ring_between(one, other, total):
+    """Return the posts and the totals of the ring of two ways of one ways_from, and a tie of their ends."""
+    # Such ways go along together at first, and do not meet again behind that.
+    alike = 0
+    while alike < min(len(one[0]), len(other[0])) and one[0][alike] == other[0][alike]:
+        alike += 1
+    back = tuple(reversed(other[0][alike:]))
+    back_totals = tuple(reversed(other[1][alike - 1:]))
+    return (one[0][alike - 1:] + back, one[1][alike - 1:] + (total,) + back_totals)
+
+
 def is_way(tied, many, posts, totals):
     """Return whether any values are unlike ends of so many, and totals that tie them in a row."""
     if not are_numbers_below(posts, many) or not posts or not are_unlike(posts):

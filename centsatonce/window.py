@@ -9,8 +9,13 @@ from centsatonce.ties import has_lone
 
 def signed_errors(table, blocks, errors):
     """Return for each class the error of its kinds, times its colour."""
+    return signed_by(table, blocks.colours, errors)
+
+
+def signed_by(table, colours, errors):
+    """Return for each class the error of its kinds, times its one of any colours."""
     of_classes = class_errors(table, errors)
-    return tuple([timed((colour, 1), error) for colour, error in zip(blocks.colours, of_classes)])
+    return tuple([timed((colour, 1), error) for colour, error in zip(colours, of_classes)])
 
 
 def fixed_pieces(table, blocks):
@@ -41,6 +46,12 @@ def span_of(points):
 def are_close(points):
     """Return whether the greatest of some points is less than 1 above the least one."""
     return is_small(span_of(points))
+
+
+def lie_from(points, least):
+    """Return whether some points lie from a fraction on, less than 1 above it."""
+    above = [taken(point, least) for point in points]
+    return all([one[0] >= 0 and is_small(one) for one in above])
 
 
 def is_inside(table, blocks, errors):

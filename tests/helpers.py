@@ -86,6 +86,21 @@ def with_swapped(value, other):
         yield list(value)
 
 
+def swapped_objects(make, parts, other):
+    """Yield all objects of a class in which one item, at any depth, is another value."""
+    for at, part in enumerate(parts):
+        for swapped in with_swapped(part, other):
+            yield make(*parts[:at], swapped, *parts[at + 1:])
+
+
+def odd_objects(make, many):
+    """Objects of a class that have one odd value in all places."""
+    return [make(*[value] * many) for value in odd_values()]
+
+
+OTHERS = (True, False, None, 1.0, 0.0, "1", "", [], {}, -1, -2, 9, 10 ** 30, (), (0,), Rude(), Yes())
+
+
 def random_table(rng, most_kinds=6, most_totals=5, sizes=None, least_kinds=1):
     """A table with few kinds and totals, empty and equal totals among them."""
     many = rng.randint(least_kinds, most_kinds)

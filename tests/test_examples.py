@@ -6,7 +6,8 @@ from centsatonce.attacks import attack_day, beaten_total, height_of, is_attack, 
 from centsatonce.begun import begin_total, no_starts
 from centsatonce.clashes import all_clashes, is_clash
 from centsatonce.court import Blocks, court, sides_of_total
-from centsatonce.days import course_of, first_off
+from centsatonce.days import course_of, first_off, total_errors
+from centsatonce.deeds import line_deed, open_totals, sheet_after
 from centsatonce.derivations import derived_by
 from centsatonce.derived import derived_lot
 from centsatonce.disk import Disk
@@ -15,6 +16,7 @@ from centsatonce.fewest import least_height, least_lines, stubborn
 from centsatonce.games import kept_days
 from centsatonce.halves import fewest_lines, half_states, is_clerk_table, lost_states
 from centsatonce.held import are_held_for, lasting_wholes, lost_pairs
+from centsatonce.heldpapers import held_paper
 from centsatonce.holding import allowed_in, told_day
 from centsatonce.knots import odd_ring, parted, partings_into_three
 from centsatonce.narrow import narrowest
@@ -27,10 +29,12 @@ from centsatonce.reaches import lines_that_tell, post_way
 from centsatonce.reader import read_day, read_fraction, read_sequence, read_table
 from centsatonce.reasons import is_bar
 from centsatonce.sequences import closures_back, is_kept, lost_line
+from centsatonce.sheets import new_sheet
 from centsatonce.struck import deeds_on_ways, strike_attack
 from centsatonce.tables import Table, classes_of, core_of, totals_by_classes
 from centsatonce.tapes import standing_day, tape_errors
 from centsatonce.wearing import even_tape, wearing_bound, wearing_deed
+from centsatonce.widewindow import near_day, wide_day
 from centsatonce.wider import bound_of, widths_of
 from centsatonce.window import allowed, gap_beside, window_of
 from centsatonce.windowdays import window_day
@@ -136,6 +140,7 @@ class Examples(unittest.TestCase):
         errors = ((1, 2), (0, 1), (-1, 3), (2, 3))
         self.assertEqual((lost_pairs(table, errors), are_held_for(table, errors, 1), are_held_for(table, errors, 2)),
                          (((3, 0, 3),), True, False))
+        self.assertEqual(sorted(held_paper(table, errors).totals), [0, 1, 2])
         self.assertEqual((lasting_wholes(table, errors, 1, (1, 2), 1), lasting_wholes(table, errors, 1, (1, 2), 0)), ((), (0,)))
 
     def test_reasons(self):
@@ -152,6 +157,9 @@ class Examples(unittest.TestCase):
         table = Table(("cup", "jam", "tea"), ((0,), (0, 1), (0, 1, 2)))
         self.assertEqual((widths_of(table, (1, -1, 1)), bound_of(table, (1, -1, 1), (2, 1, -1)), narrowest(table)),
                          ((1, 1, 2), 2, 2))
+        self.assertEqual(wide_day(table, (1, -1, 1), ((0, (1, 2)), (1, (1, 2)), (2, (1, 2)))),
+                         ((0, (1, 2), 0), (1, (1, 2), 1), (2, (1, 2), 0)))
+        self.assertEqual(total_errors(table, near_day(table, (1, 1, 1), (1, 1, 1), 4))[2], (9, 4))
 
     def test_clashes(self):
         table = Table(("a", "b", "c", "d"), ((0,), (0, 1), (0, 1, 2, 3)))
@@ -168,6 +176,11 @@ class Examples(unittest.TestCase):
         self.assertEqual(even_tape(table, 0, ((0, (1, 3)), (0, (1, 3)), ("struck", 1), (0, (1, 3)))),
                          ((0, (1, 3), 0), (0, (1, 3), 1), ("struck", 1), (0, (1, 3), 0)))
         self.assertEqual((wearing_bound((1, 1), 1), wearing_deed(table, 0, (1, 1), 1, ())), (19, (0, (1, 3))))
+
+    def test_deeds(self):
+        sheet = sheet_after(new_sheet(Table(("cup", "tea"), ((0,),))), ("line", 0, (7, 2), 4))
+        self.assertEqual((sheet.errors, line_deed(sheet, 0, (5, 2), 3), open_totals(sheet)),
+                         (((1, 2), (0, 1)), ("line", 0, (5, 2), 2), ((), (0,), (0, 1), (1,))))
 
     def test_disk(self):
         disk = Disk((0,) * 900)
