@@ -3,10 +3,11 @@
 from centsatonce.checks import are_numbers_below, are_unlike, is_tuple_of
 from centsatonce.court import WHITE
 from centsatonce.held import blocks_or_refused
-from centsatonce.numbers import ZERO, added, sum_by_turns, taken
-from centsatonce.tables import classes_of
+from centsatonce.numbers import ZERO, added, sum_by_turns, taken, timed
+from centsatonce.tables import classes_of, totals_by_classes
 from centsatonce.ties import ties
 from centsatonce.ways import are_tied, ring_between, ways_from
+from centsatonce.window import signed_errors
 
 LEAST_RING = 2
 
@@ -88,3 +89,21 @@ def is_uneven_ring(table, starts, value):
     if not are_tied(ties(table), list(zip(classes, classes[1:] + classes[:1])), totals):
         return False
     return sum_of_starts(starts, totals) != ZERO
+
+
+def begun_points(table, blocks, starts, heights, errors):
+    """Return for each piece the points of its classes and of its totals of one class, less the heights."""
+    signed = signed_errors(table, blocks, errors)
+    points = []
+    for piece in blocks.pieces:
+        own = [taken(signed[number], heights[number]) for number in piece]
+        for number, total in lone_totals(table, piece):
+            own.append(taken(timed((blocks.colours[number], 1), starts[total]), heights[number]))
+        points.append(own)
+    return points
+
+
+def lone_totals(table, piece):
+    """Return the pairs of a class of a piece and a total that has just this class."""
+    totals = totals_by_classes(table)
+    return [(one[0], total) for total, one in enumerate(totals) if len(one) == 1 and one[0] in piece]

@@ -6,10 +6,11 @@ A part is a pair (kinds, totals) of lots of numbers of its kinds and its totals.
 from itertools import combinations
 
 from centsatonce.checks import is_lot_below, is_tuple_of
-from centsatonce.court import is_good
+from centsatonce.court import court, is_good
 from centsatonce.errors import Refused
+from centsatonce.knots import Knot, parted
 from centsatonce.pieces import piece_from
-from centsatonce.tables import without_kinds, without_totals
+from centsatonce.tables import classes_of, without_kinds, without_totals
 
 MOST_TO_SEARCH = 8
 
@@ -55,20 +56,35 @@ def is_clash(table, value):
 
 def some_clash(table):
     """Return some clash, None if there is none."""
-    part = whole_part(table)
-    if is_fit(table, part):
-        return None
-    # All parts of fit parts are fit: what could not be spared once cannot be spared later.
+    return clash_within(table, whole_part(table))
+
+
+def clash_within(table, part):
+    """Return some clash all of which is in a part, None if there is none."""
     kinds, totals = part
-    for kind in part[0]:
-        fewer = tuple([one for one in kinds if one != kind])
-        if not is_fit(table, (fewer, totals)):
-            kinds = fewer
-    for total in part[1]:
-        fewer = tuple([one for one in totals if one != total])
-        if not is_fit(table, (kinds, fewer)):
-            totals = fewer
-    return (kinds, totals)
+    if not kinds:
+        return None
+    own = part_table(table, kinds, totals)
+    knot = court(own)
+    if not isinstance(knot, Knot):
+        return None
+    classes = classes_of(own)
+    if knot.word == "ring":
+        numbers, clashing = knot.at, knot.totals
+    else:
+        numbers, clashing = three_parted(own, knot), knot.totals + (knot.at,)
+    return (named_by(kinds, [classes[number][0] for number in numbers]), named_by(totals, clashing))
+
+
+def three_parted(table, knot):
+    """Return three classes of a total, no two of which lie in the same ones of two others."""
+    lots = [lot for lot in parted(table, knot.at, knot.totals[0], knot.totals[1]) if lot]
+    return [lot[0] for lot in lots[:3]]
+
+
+def named_by(numbers, places):
+    """Return the lot of the numbers at some places."""
+    return tuple(sorted([numbers[place] for place in places]))
 
 
 def all_clashes(table):

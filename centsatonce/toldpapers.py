@@ -41,7 +41,7 @@ def told_paper(table, sequence):
     number = [at for at, entry in enumerate(beyond) if abs(entry) > 1][0]
     # What is due is cut, so its entries are at classes that are met.
     line = dues.classes[:dues.reached()].index(number)
-    return BeatenPaper(line, dues.steps_of(dues.present[beyond]))
+    return BeatenPaper(line, dues.steps_of(dues.places[-1][beyond]))
 
 
 def unheld_paper(table, sequence, place, errors):

@@ -59,69 +59,67 @@ def is_told_difference(classes, facts, step):
 class Dues:
     """What is due at the places of a sequence, by the steps of which it comes about.
 
-    It changes: it goes back from the last place. At each place it has a dict from the reckonings
-    due there, cut, to the numbers of their steps, which are not cut.
+    It changes: it goes back from the last place, up to one at which something is beyond. For each
+    place it has a dict from the reckonings due there, cut, to the numbers of their steps, which are
+    not cut.
     """
 
     def __init__(self, table, sequence):
         self.classes = line_classes(table, sequence)
         self.steps = []
-        self.present = {}
-        self.places = []
-        self._begin(table)
-        self._go_back()
-
-    def _begin(self, table):
-        """Find what is due at the last place."""
-        met = met_classes(self.classes)
-        for total, one in enumerate(total_reckonings(table)):
-            self._add(cut(one, met), ("total", total, 1))
-            self._add(cut(opposite_reckoning(one), met), ("total", total, -1))
-        self.places.append(self.present)
-
-    def _add(self, one, step):
-        """Add a step, if what it gives is not due yet and is not 0 alone."""
-        if any(one) and one not in self.present:
-            self.present[one] = len(self.steps)
-            self.steps.append(step)
-
-    def _go_back(self):
-        """Find what is due at the places before, up to one at which something is beyond."""
+        self.places = [self._due_last(table)]
         for line in reversed(range(len(self.classes))):
-            number = self.classes[line]
-            if number is not None:
-                self._step_over(line, number, met_classes(self.classes[:line]))
-            self.places.append(self.present)
+            self.places.append(self._due_ahead(line, self.places[-1]))
             if self.beyond() is not None:
                 break
 
-    def _step_over(self, line, number, met):
-        """Find what is due ahead of a line of a class."""
-        behind = self.present
-        self.present = {}
+    def _due_last(self, table):
+        """Return what is due at the last place."""
+        met = met_classes(self.classes)
+        due = {}
+        for total, one in enumerate(total_reckonings(table)):
+            self._add(due, cut(one, met), ("total", total, 1))
+            self._add(due, cut(opposite_reckoning(one), met), ("total", total, -1))
+        return due
+
+    def _due_ahead(self, line, behind):
+        """Return what is due ahead of a line, by what is due behind it."""
+        number = self.classes[line]
+        if number is None:
+            return behind
+        met = met_classes(self.classes[:line])
+        due = {}
         for one, at in behind.items():
             shown = cut(one, met)
-            if any(shown):
-                self.present.setdefault(shown, at)
+            if any(shown) and shown not in due:
+                due[shown] = at
         ones = [one for one in behind if one[number] == 1]
         for one in ones:
             for other in ones:
-                self._add(cut(difference_of(one, other), met), ("less", line, behind[one], behind[other]))
+                step = ("less", line, behind[one], behind[other])
+                self._add(due, cut(difference_of(one, other), met), step)
+        return due
+
+    def _add(self, due, one, step):
+        """Add a step, if what it gives is not due yet and is not 0 alone."""
+        if any(one) and one not in due:
+            due[one] = len(self.steps)
+            self.steps.append(step)
 
     def beyond(self):
         """Return some reckoning due at the place reached that is beyond, None if there is none."""
-        for one in self.present:
+        for one in self.places[-1]:
             if is_beyond(one):
                 return one
         return None
 
-    def due_at(self, place):
-        """Return the dict of a place."""
-        return self.places[len(self.classes) - place]
-
     def reached(self):
         """Return the place that is reached."""
         return len(self.classes) - len(self.places) + 1
+
+    def due_at(self, place):
+        """Return what is due at a place."""
+        return self.places[len(self.classes) - place]
 
     def steps_of(self, number):
         """Return the steps on which one rests, it among them, numbered anew."""
