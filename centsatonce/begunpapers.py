@@ -120,11 +120,9 @@ def is_right_way(table, starts, errors, paper):
 
 
 def are_joined(joints, rows):
-    """Return whether each joint lies in the totals beside it, and all but the first and the last have no more."""
-    for joint, before, behind in zip(joints, rows, rows[1:]):
-        if joint not in before or joint not in behind:
-            return False
-    return all([len(row) == 2 for row in rows[1:-1]])
+    """Return whether each joint lies in the totals beside it."""
+    # So a total between two joints, of two classes at most, has just these.
+    return all([joint in before and joint in behind for joint, before, behind in zip(joints, rows, rows[1:])])
 
 
 def are_ended(joints, rows, totals):

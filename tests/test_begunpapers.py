@@ -179,6 +179,20 @@ class Papers(unittest.TestCase):
         self.assertIs(is_begun_paper(TWICE, starts, ((0, 1), (0, 1)), UnevenRing((0, 1), (0, 1))), True)
         self.assertIs(is_begun_paper(TWICE, starts, ((0, 1), (0, 1)), LostWay((), (0,))), True)
 
+    def test_nearly_ways(self):
+        # All counted errors are far off, so that nothing but the form is asked.
+        table = Table(("a", "b", "c", "d"), ((0, 1), (1, 2), (2, 3), (3,), (0, 1, 2), (), (0, 1)))
+        starts, errors = ((0, 1),) * 7, ((99, 1), (0, 1), (500, 1), (0, 1))
+        for joints, totals, right in (((1,), (0, 1), True), ((1, 2), (0, 1, 2), True), ((1, 2, 3), (0, 1, 2, 3), True),
+                                      ((2,), (0, 1), False), ((0,), (0, 1), False), ((1, 1), (0, 1, 1), False),
+                                      ((2, 1), (0, 1, 2), False), ((1, 3), (0, 1, 2), False), ((1,), (0, 2), False),
+                                      ((), (4,), False), ((), (0,), True), ((), (5,), False), ((2,), (4, 2), False),
+                                      ((2,), (1, 4), False), ((1, 2), (0, 4, 2), False), ((0,), (0, 6), False),
+                                      ((0, 1), (6, 0, 1), False), ((1, 0), (1, 0, 6), False), ((3,), (2, 3), True),
+                                      ((3, 2, 1), (3, 2, 1, 0), True), ((1,), (0, 1, 2), False), ((1, 2), (0, 1), False)):
+            self.assertIs(is_begun_paper(table, starts, errors, LostWay(joints, totals)), right, (joints, totals))
+            self.assertIs(is_plain_way(table, starts, errors, joints, totals), right, (joints, totals))
+
     def test_rings_by_a_millionth(self):
         starts = ((1, 2), (500001, 10 ** 6), (0, 1))
         for errors in (((0, 1), (0, 1)), ((1, 3), (-1, 3))):

@@ -315,6 +315,7 @@ class Statements(unittest.TestCase):
         self.assertIs(is_so(("held", one, ((long[1] - 9, long[1]), long), held_paper(one, ((long[1] - 9, long[1]), long)))), True)
 
     def test_other_values(self):
+        self.assertIs(is_so(()), False)
         for value in odd_values():
             self.assertIs(is_so(value), False)
             for word in ("blocks", "knot", "derived", "attack", "day", "told", "beaten", "held", "pair", "run"):

@@ -118,6 +118,8 @@ class DayOrBar(unittest.TestCase):
         bar = goal_bar(kept=True, goal=((2, 2), None), lines=LINES, blocks=blocks, table=TABLE)
         self.assertIs(is_bar(TABLE, LINES, ((2, 2), None), bar), True)
         self.assertIsNone(goal_bar(TABLE, blocks, LINES, ((2, 2), None), False))
+        # Without a word on it, days are to be kept.
+        self.assertIs(is_bar(TABLE, LINES, ((2, 2), None), goal_bar(TABLE, blocks, LINES, ((2, 2), None))), True)
 
     def test_goals_for_totals_without_lines(self):
         table = Table(("a", "b"), ((0,), (), (1,)))
@@ -180,6 +182,7 @@ class Ranges(unittest.TestCase):
         falling, rising = range_papers(total=1, goal=(None, None), lines=LINES, blocks=blocks, table=TABLE, kept=True)
         self.assertIs(is_limit_paper(TABLE, LINES, (None, None), 1, -1, -1, falling), True)
         self.assertIs(is_limit_paper(TABLE, LINES, (None, None), 1, 1, 2, rising), True)
+        self.assertEqual(range_papers(TABLE, blocks, LINES, (None, None), 1), (falling, rising))
         empty = Table(("a",), ((), (0,)))
         self.assertEqual(end_range(empty, court(empty), (), (None, None), 0), (0, 0))
         self.assertEqual(end_range(empty, court(empty), (), (None, None), 1), (0, 0))

@@ -153,6 +153,50 @@ class Papers(unittest.TestCase):
             dear = ((1, 1, None, 1, None, None), (None,) * 6)
             self.assertIs(is_repair_paper(table, dear, RepairPaper((0, 3), (), denial)), right)
 
+    def test_clashes_that_are_none_or_are_not_left(self):
+        prices = ((5, None, 5, 5), (None,) * 3)
+        for denial, right in ((((0, 1, 2), (0, 1, 2), (None,) * 6), True), (((0, 1, 3), (0, 1, 2), (None,) * 6), True),
+                              (((0, 1, 2, 3), (0, 1, 2), (None,) * 7), False), (((0, 2, 3), (0, 1, 2), (None,) * 6), False),
+                              (((0, 1), (0, 1, 2), (None,) * 5), False)):
+            self.assertIs(is_repair_paper(TABLE, prices, RepairPaper((0,), (), denial)), right)
+        table = Table(NAMES[:6], ((0, 1), (1, 2), (0, 2), (3, 4), (4, 5), (3, 5)))
+        prices = ((1, None, None, 1, None, None), (None,) * 6)
+        one, other = ((0, 1, 2), (0, 1, 2)), ((3, 4, 5), (3, 4, 5))
+        for inner, right in ((other, True), (one, False)):
+            denial = one + ((inner + ((None,) * 6,),) + (None,) * 5,)
+            self.assertIs(is_repair_paper(table, prices, RepairPaper((0, 3), (), denial)), right)
+
+    def test_what_came_before_stays_within(self):
+        nested = Table(NAMES[:5], tuple(tuple(range(many)) for many in range(1, 6)))
+        prices = ((1,) * 5, (None,) * 5)
+        paper = repair_paper(nested, prices)
+        self.assertEqual(len(paper.kinds), 3)
+        self.assertTrue(is_plain_paper(nested, prices, paper))
+        self.assertIs(is_repair_paper(nested, prices, paper), True)
+        # With the first two kinds staying and the third one taken out, these two are not denied further within.
+        free = ((0, 1, 3), (0, 1, 3), (None,) * 6)
+        for place in range(3):
+            kinds, totals, more = paper.denial
+            within = more[2][2]
+            spoilt = within[:place] + (free if within[place] is None else None,) + within[place + 1:]
+            denial = (kinds, totals, more[:2] + (more[2][:2] + (spoilt,),) + more[3:])
+            changed = RepairPaper(paper.kinds, paper.totals, denial)
+            self.assertIs(is_repair_paper(nested, prices, changed), False)
+            self.assertFalse(is_plain_paper(nested, prices, changed))
+        inner = paper.denial[2][2]
+        self.assertEqual([one is None for one in inner[2][:3]], [kind in paper.denial[0][:2] for kind in inner[0]])
+        self.assertIn(None, inner[2][:3])
+        # The least kind, which is denied first, is met again where it must stay.
+        self.assertEqual(paper.denial[0], (0, 1, 2))
+        leaf = (None,) * 6
+        ends = [((0, 3, 4), (0, 3, 4), leaf), ((0, 2, 4), (0, 2, 4), leaf)]
+        for first, right in ((None, True), (((2, 3, 4), (2, 3, 4), leaf), False)):
+            inner = ((0, 2, 3), (0, 2, 3), (first, ends[0], ends[1], None, None, None))
+            more = paper.denial[2]
+            changed = RepairPaper(paper.kinds, paper.totals, paper.denial[:2] + (more[:1] + (inner,) + more[2:],))
+            self.assertIs(is_repair_paper(nested, prices, changed), right)
+            self.assertIs(is_plain_paper(nested, prices, changed), right)
+
     def test_twelve_prices(self):
         nested = Table(NAMES, tuple(tuple(range(many)) for many in range(1, 13)))
         for prices, expected in ((((1,) * 12, (None,) * 12), None), (((1,) * 12, (1,) + (None,) * 11), SIZE),

@@ -193,6 +193,33 @@ class Told(unittest.TestCase):
         self.assertIs(is_told_paper(one, (0, 1), ToldPaper(((), ((-1, 0), (1, 0)), whole))), False)
         self.assertIs(is_told_paper(one, (1, 0), ToldPaper(((), ((0, -1), (0, 1)), whole))), False)
 
+    def test_lots_that_are_none(self):
+        one = Table(("a", "b"), ((0,), (1,)))
+        for lot, right in ((((-1, 0), (1, 0)), True), (((1, 0), (-1, 0)), False), (((-1, 0), (-1, 0), (1, 0)), False),
+                           (((-2, 0), (-1, 0), (1, 0), (2, 0)), False), (((-1, 0), (0, 0), (1, 0)), False),
+                           (((-1, 0), (1, 0), (1, 1)), False), (((-1, 0),), False), (((-1, 0), (1, 0), (0, 0)), False)):
+            self.assertIs(is_told_paper(one, (0,), ToldPaper(((), lot))), right)
+
+    def test_what_does_not_hold_behind_the_line(self):
+        # The same steps, told for a later line of the class.
+        many = 0
+        rng = random.Random(8)
+        for table in TABLES:
+            sequence = random_sequence(rng, table, 8)
+            paper = told_paper(table, sequence)
+            if isinstance(paper, BeatenPaper):
+                hold = plain_steps(table, sequence, paper.steps)[-1][1]
+                longer = sequence[:hold] + (sequence[paper.line],) + sequence[hold:]
+                moved = tuple(step if step[0] == "total" else (step[0], step[1] + (step[1] >= hold)) + step[2:]
+                              for step in paper.steps)
+                self.assertIs(is_beaten_paper(table, longer, BeatenPaper(paper.line, moved)), True)
+                self.assertIs(is_beaten_paper(table, longer, BeatenPaper(hold, moved)), True)
+                later = sequence + (sequence[paper.line],)
+                self.assertIs(is_beaten_paper(table, later, paper), True)
+                self.assertIs(is_beaten_paper(table, later, BeatenPaper(len(sequence), paper.steps)), False)
+                many += 1
+        self.assertGreater(many, 5)
+
     def test_examples(self):
         paper = told_paper(sequence=(1, 0, 2), table=TABLE)
         self.assertIsInstance(paper, BeatenPaper)

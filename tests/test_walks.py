@@ -103,6 +103,18 @@ class Games(unittest.TestCase):
         for starts in (((0, 1), (1, 4), (0, 1), (0, 1)), ((1, 4), (-1, 4), (1, 2), (-1, 4)), ((0, 1), (0, 1), (1, 4), (3, 4))):
             self.check(rng, table, starts, 4, 60)
 
+    def test_the_piece_that_is_lost_first(self):
+        table = Table(("a", "b", "c", "d"), ((0, 1), (0, 1), (0,), (2, 3), (2, 3), (2,)))
+        seen = set()
+        for one in (2, 5, 9, None):
+            for other in (2, 5, 9, None):
+                starts = ((0, 1), (1, one) if one else (0, 1), (0, 1), (0, 1), (1, other) if other else (0, 1), (0, 1))
+                alone = [lines_begun(TWICE, own, ((0, 1),) * 2) for own in (starts[:3], starts[3:])]
+                known = [lines for lines in alone if lines is not None]
+                self.assertEqual(lines_begun(table, starts, ((0, 1),) * 4), min(known, default=None))
+                seen.add(tuple(alone))
+        self.assertEqual(len(seen), 16)
+
     def test_off_now(self):
         rng = random.Random(4)
         for table in GOOD:
